@@ -1,0 +1,1 @@
+"""Holedeck: an office of cards with holes."""
