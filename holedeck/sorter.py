@@ -24,7 +24,7 @@ def pockets(deck, one):
 def passed(deck, one):
     """Tell the deck that a pass lays together."""
     decks = pockets(deck, one)
-    _, _, falling = one
+    falling = one[2]
     if falling:
         decks.reverse()
     return [card for part in decks for card in part]

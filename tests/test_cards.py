@@ -54,6 +54,11 @@ class Signs(unittest.TestCase):
         for column, sign in SIGNS.items():
             self.assertEqual(sign_of(column), sign, column)
 
+    def test_only_need_deck_refuses_bad_columns(self):
+        for column in BAD_COLUMNS:
+            self.assertIs(type(sign_of(column)), str, column)
+            self.assertIs(type(written([(column,), ()])), str, column)
+
     def test_defined_where_the_interface_lists_it(self):
         for name in ("need_deck", "sign_of", "written", "read"):
             self.assertEqual(getattr(cards, name).__module__, "holedeck.cards")

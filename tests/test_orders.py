@@ -140,6 +140,10 @@ class Plainly(unittest.TestCase):
         deck = read("2\n1") * 120
         self.assertEqual(plainly(deck, [(0, False)]), read("1") * 120 + read("2") * 120)
 
+    def test_cards_that_cannot_be_are_no_error(self):
+        deck = [((0, 1),), (), ((5,),) * 13, ((12,),), ((10, 11),)]
+        self.assertEqual(len(plainly(deck, [(0, False), (11, True)])), 5)
+
     def test_by_the_words_of_the_document(self):
         chance = random.Random(8)
         for _ in range(80):

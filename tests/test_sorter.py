@@ -78,6 +78,14 @@ class Pockets(unittest.TestCase):
         self.assertEqual(texts(pockets(deck, (1, (1,), False))), filled(p0="1\n1 1", p2="11"))
         self.assertEqual(texts(pockets(deck, (11, ALL, False))), filled(p0="1\n11\n1 1"))
 
+    def test_somewhat_beyond_the_limits_is_no_error(self):
+        deck = read("1\n111111111111") + [(), ((1,),) * 13, ((12,),)]
+        for column in (-1, 0, 12, 13):
+            for places in ((), (1,), (-1, 1, 12, 13)):
+                found = pockets(deck, (column, places, False))
+                self.assertEqual([len(found), sum(len(part) for part in found)], [13, 5])
+                self.assertEqual(len(sorted_by(deck, [(column, places, True)])), 5)
+
     def test_the_empty_deck(self):
         self.assertEqual(pockets([], (0, ALL, True)), [[] for _ in range(13)])
 
