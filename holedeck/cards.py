@@ -59,6 +59,11 @@ def column_of(sign):
     return ranked(SIGNS.index(sign))
 
 
+def figure_of(column):
+    """Tell the figure of a column, 0 without a figure's hole."""
+    return max([hole for hole in column if 0 <= hole < FIRST_ABOVE], default=0)
+
+
 def column_at(card, at):
     """Tell a card's column, which has no holes beyond the card."""
     if 0 <= at < len(card):
